@@ -60,7 +60,9 @@ def inside_cost(rule, text, table, begin, end):
 
 
 def leaf_cost(sign, text, begin, end):
-    """The cost of the cheapest leaf with this sign over a stretch with signs."""
+    """The cost of the cheapest leaf with this sign over a stretch."""
+    if begin == end:
+        return 1
     # One sign of the stretch is kept or changed, all others are left out.
     if sign in text[begin:end]:
         return end - begin - 1

@@ -96,6 +96,11 @@ def names_of(rules):
     return list({rule[0]: True for rule in rules})
 
 
+def top_of(rules):
+    """The grammar's top."""
+    return rules[0][0]
+
+
 def lengths_of(rules):
     """From each name that stands for a text to the length of the shortest such text.
 

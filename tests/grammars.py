@@ -83,3 +83,16 @@ def doubling(many):
     """A grammar of so many rules, whose top stands for one text of 2 ** (many - 1) signs."""
     forks = [(name_at(at), name_at(at + 1), name_at(at + 1)) for at in range(many - 1)]
     return forks + [(name_at(many - 1), "x")]
+
+
+def of_length(many):
+    """A grammar whose top stands for one text of just so many signs (2 to 2 ** 12)."""
+    bits = [at for at in range(many.bit_length()) if many >> at & 1]
+    highest = bits.pop()
+    doubles = [(name_at(at), name_at(at - 1), name_at(at - 1)) for at in range(highest, 0, -1)]
+    sums = []
+    so_far = name_at(highest)
+    for at in bits:
+        sums.append(("with" + name_at(at), name_at(at), so_far))
+        so_far = "with" + name_at(at)
+    return sums[::-1] + doubles + [(name_at(0), "x")]

@@ -87,3 +87,68 @@ def distance(one, other):
         for place, wanted in enumerate(other):
             row.append(min(last[place] + (sign != wanted), last[place + 1] + 1, row[place] + 1))
     return row[-1]
+
+
+def told_tree(rules, text, table, name, begin, end):
+    """Point 11, word by word, by the costs of the table."""
+    cost = table[name, begin, end]
+    for rule in rules:
+        if rule[0] != name or rule_cost(rule, text, table, begin, end) != cost:
+            continue
+        if len(rule) == 2:
+            places = [place for place in range(begin, end) if text[place] == rule[1]] + list(range(begin, end))
+            return (name, rule[1], begin, end, places[0] if places else None)
+        for place in range(begin, end + 1):
+            if table[rule[1], begin, place] + table[rule[2], place, end] == cost:
+                one = told_tree(rules, text, table, rule[1], begin, place)
+                return (name, one, told_tree(rules, text, table, rule[2], place, end))
+    raise AssertionError("no rule comes to the cost")
+
+
+def all_trees(rules, text, name, begin, end, depth):
+    """All trees of the name over the stretch with at most this many forks above each leaf."""
+    found = []
+    for rule in rules:
+        if rule[0] == name and len(rule) == 2:
+            keepable = range(begin, end) if begin < end else [None]
+            found.extend((name, rule[1], begin, end, kept) for kept in keepable)
+        elif rule[0] == name and depth > 0:
+            for place in range(begin, end + 1):
+                ones = all_trees(rules, text, rule[1], begin, place, depth - 1)
+                others = all_trees(rules, text, rule[2], place, end, depth - 1)
+                found.extend((name, one, other) for one in ones for other in others)
+    return found
+
+
+def what_it_is(rules, text, thing):
+    """The name, begin and end of a tree by points 5 to 7, of which the thing is one; None where it is none."""
+    if type(thing) is not tuple or len(thing) not in (3, 5):
+        return None
+    if type(thing[0]) is not str:
+        return None
+    if len(thing) == 3:
+        one = what_it_is(rules, text, thing[1])
+        other = what_it_is(rules, text, thing[2])
+        if one is None or other is None or one[2] != other[1] or (thing[0], one[0], other[0]) not in rules:
+            return None
+        return (thing[0], one[1], other[2])
+    name, sign, begin, end, kept = thing
+    if type(sign) is not str or (name, sign) not in rules or type(begin) is not int or type(end) is not int:
+        return None
+    if begin not in range(len(text) + 1) or end not in range(begin, len(text) + 1):
+        return None
+    if begin == end:
+        good = kept is None
+    else:
+        good = type(kept) is int and kept in range(begin, end)
+    return (name, begin, end) if good else None
+
+
+def count_of(tree, text):
+    """Point 8: how many signs the tree puts in, changes and leaves out, counted place by place."""
+    if len(tree) == 3:
+        return count_of(tree[1], text) + count_of(tree[2], text)
+    _, sign, begin, end, kept = tree
+    if begin == end:
+        return 1
+    return len([place for place in range(begin, end) if place != kept or text[place] != sign])

@@ -6,7 +6,9 @@ from copy import deepcopy
 from mendread.costs import costs, shortest
 from mendread.errors import BadRule, BadText, Endless, MendError, NoName
 from mendread.grammars import names_of, need_rules
+from mendread.mending import mend, reads
 from tests.grammars import BRACKETS, BY_HAND, doubling, drawn_grammars, name_at
+from tests.refusing import Refusing
 from tests.things import NO_NAMES, NO_SIGNS, NO_TEXTS, NO_TUPLES
 
 GOOD = [("a", "b", "b"), ("b", "x"), ("c", "y")]
@@ -15,23 +17,18 @@ UNKNOWN = ("a", "a", "d")
 ENDLESS = ("e", "e", "e")
 
 
-class Refusing(unittest.TestCase):
-    def just(self, refusal, ask, *asked):
-        with self.assertRaises(ValueError) as caught:
-            ask(*asked)
-        self.assertIs(type(caught.exception), refusal)
-        self.assertIsInstance(caught.exception, MendError)
-
+class RefusingGrammars(Refusing):
     def refused(self, refusal, rules):
         """The grammar is refused just so by all that refuse as in point 4, whatever the text is."""
         self.just(refusal, need_rules, rules)
         self.just(refusal, shortest, rules)
-        self.just(refusal, costs, rules, "x")
-        self.just(refusal, costs, rules, "x" * 41)
-        self.just(refusal, costs, rules, None)
+        for ask in (costs, mend, reads):
+            self.just(refusal, ask, rules, "x")
+            self.just(refusal, ask, rules, "x" * 41)
+            self.just(refusal, ask, rules, None)
 
 
-class BadRules(Refusing):
+class BadRules(RefusingGrammars):
     def test_no_rules(self):
         self.refused(BadRule, [])
 
@@ -81,7 +78,7 @@ class BadRules(Refusing):
                 self.refused(BadRule, GOOD + [("a", part)])
 
 
-class NoNames(Refusing):
+class NoNames(RefusingGrammars):
     def test_a_name_one(self):
         self.refused(NoName, [("a", "x"), ("a", "d", "a")])
         self.refused(NoName, GOOD + [("c", "d", "a")])
@@ -102,7 +99,7 @@ class NoNames(Refusing):
         self.assertEqual(need_rules(rules), rules)
 
 
-class EndlessNames(Refusing):
+class EndlessNames(RefusingGrammars):
     def test_the_top(self):
         self.refused(Endless, [("a", "a", "a")])
         self.refused(Endless, [("a", "a", "b"), ("b", "x")])
@@ -129,7 +126,7 @@ class EndlessNames(Refusing):
         self.assertEqual(need_rules(doubling(40)[::-1]), doubling(40)[::-1])
 
 
-class TheOrder(Refusing):
+class TheOrder(RefusingGrammars):
     def test_a_bad_rule_is_told_ahead_of_a_missing_name(self):
         self.refused(BadRule, [UNKNOWN, ("a", "x"), BAD])
         self.refused(BadRule, [BAD, ("a", "x"), UNKNOWN])
@@ -149,12 +146,13 @@ class TheOrder(Refusing):
         self.refused(BadRule, [ENDLESS, UNKNOWN, ("a", "x"), BAD])
 
     def test_the_text_is_looked_at_behind_the_grammar(self):
-        for text in [*NO_TEXTS, "x" * 41, chr(37), "\n"]:
-            self.just(BadText, costs, GOOD, text)
-            self.just(BadRule, costs, [], text)
-            self.just(BadRule, costs, [BAD], text)
-            self.just(NoName, costs, [UNKNOWN], text)
-            self.just(Endless, costs, [ENDLESS], text)
+        for text in [*NO_TEXTS, "x" * 41, chr(37), "\n", "xx\u00e9"]:
+            for ask in (costs, mend, reads):
+                self.just(BadText, ask, GOOD, text)
+                self.just(BadRule, ask, [], text)
+                self.just(BadRule, ask, [BAD], text)
+                self.just(NoName, ask, [UNKNOWN], text)
+                self.just(Endless, ask, [ENDLESS], text)
 
 
 class Telling(unittest.TestCase):

@@ -2,12 +2,15 @@
 
 import unittest
 
-from mendread import costs, errors, grammars
+from mendread import costs, deeds, errors, grammars, mending, trees
 
 LISTED = [
     (errors, ["MendError", "BadRule", "NoName", "Endless", "BadText", "BadDeeds"]),
     (grammars, ["is_sign", "is_name", "is_rule", "need_rules", "need_text", "names_of"]),
     (costs, ["costs", "shortest"]),
+    (mending, ["mend", "reads"]),
+    (trees, ["stretch_of", "mended", "cost_of", "holds"]),
+    (deeds, ["deeds_of", "done"]),
 ]
 
 
@@ -28,6 +31,15 @@ class Interface(unittest.TestCase):
         self.assertEqual(grammars.names_of(rules=rules), ["a"])
         self.assertEqual(costs.costs(rules=rules, text=text)["a", 0, 1], 1)
         self.assertEqual(costs.shortest(rules=rules), {"a": 1})
+        tree = ("a", "x", 0, 1, 0)
+        self.assertEqual(mending.mend(rules=rules, text=text), (tree, 1))
+        self.assertIs(mending.reads(rules=rules, text=text), False)
+        self.assertEqual(trees.stretch_of(tree=tree), (0, 1))
+        self.assertEqual(trees.mended(tree=tree), "x")
+        self.assertEqual(trees.cost_of(tree=tree, text=text), 1)
+        self.assertIs(trees.holds(rules=rules, text=text, tree=tree), True)
+        self.assertEqual(deeds.deeds_of(tree=tree, text=text), [("change", 0, "x")])
+        self.assertEqual(deeds.done(text=text, deeds=[("change", 0, "x")]), "x")
 
 
 if __name__ == "__main__":
